@@ -1,0 +1,95 @@
+"""Calls written by name, and their answers taken apart: the tests ask through the interface alone."""
+
+from neighboursdesk.picture import answers
+
+FAR = 1000000000000
+
+
+def picture(w, h, numbers):
+    return [0, w, h, len(numbers)] + list(numbers)
+
+
+def weigh(outside, columns, rows, numbers):
+    return [1, outside, columns, rows, len(numbers)] + list(numbers)
+
+
+def rank(outside, r, n):
+    return [2, outside, r, n]
+
+
+def by(d, o):
+    return [3, d, o]
+
+
+def hold(least, greatest):
+    return [4, least, greatest]
+
+
+def put():
+    return [5]
+
+
+def mix(a, b):
+    return [6, a, b]
+
+
+def parted(answered):
+    """The answers call by call; an error if the counts don't fit what stands behind them."""
+    found = []
+    at = 0
+    while at < len(answered):
+        count = answered[at]
+        if count < 1 or at + 1 + count > len(answered):
+            raise AssertionError(f"count {count} at {at} of {answered}")
+        found.append(answered[at + 1:at + 1 + count])
+        at += 1 + count
+    return found
+
+
+def ask(*calls):
+    return parted(answers([number for call in calls for number in call]))
+
+
+def last(*calls):
+    return ask(*calls)[-1]
+
+
+# The picture unchanged, as a changed picture's answer tells of it.
+LOOK = weigh(0, 1, 1, [1])
+
+
+def moved(right, down):
+    """A weigh that moves the picture by at most 2 each way; what leaves the page is gone."""
+    weights = [0] * 25
+    weights[(2 - down) * 5 + 2 - right] = 1
+    return weigh(0, 5, 5, weights)
+
+
+def moves(right, down):
+    calls = []
+    while right or down:
+        x = max(-2, min(2, right))
+        y = max(-2, min(2, down))
+        calls.append(moved(x, y))
+        right -= x
+        down -= y
+    return calls
+
+
+def numbers_behind(calls, w, h):
+    """All numbers of the w by h picture behind these calls: each cell is left alone on
+    the page, by moving all others off it, so that the least and the greatest tell it."""
+    numbers = []
+    for y in range(h):
+        for x in range(w):
+            away = moves(w - 1 - x, h - 1 - y) + moves(1 - w, 1 - h)
+            least, greatest = last(*calls, *away, LOOK)[1:]
+            numbers.append(least if w * h == 1 else least + greatest)
+    return numbers
+
+
+def far_picture(near, *cells):
+    """Calls that make a row of the cells (each times 1000 ** 4) and add near, cell by cell."""
+    w = len(cells)
+    thousands = [weigh(0, 1, 1, [1000])] * 3
+    return [picture(w, 1, near), put(), picture(w, 1, [1000 * c for c in cells])] + thousands + [mix(1, 1)]
