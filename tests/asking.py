@@ -1,5 +1,7 @@
 """Calls written by name, and their answers taken apart: the tests ask through the interface alone."""
 
+import unittest
+
 from neighboursdesk.picture import answers
 
 FAR = 1000000000000
@@ -93,3 +95,19 @@ def far_picture(near, *cells):
     w = len(cells)
     thousands = [weigh(0, 1, 1, [1000])] * 3
     return [picture(w, 1, near), put(), picture(w, 1, [1000 * c for c in cells])] + thousands + [mix(1, 1)]
+
+
+class Asked(unittest.TestCase):
+    """Tests of one call behind a new picture."""
+
+    def assert_changed(self, w, h, numbers, call, wanted):
+        calls = [picture(w, h, numbers), call]
+        with self.subTest(calls=calls):
+            self.assertEqual(ask(*calls), [[0], [0, min(wanted), max(wanted)]])
+            self.assertEqual(numbers_behind(calls, w, h), wanted)
+
+    def assert_refused(self, refusal, call):
+        calls = [picture(3, 1, [5, -1, 3]), call]
+        with self.subTest(calls=calls):
+            self.assertEqual(ask(*calls), [[0], [refusal]])
+            self.assertEqual(numbers_behind(calls, 3, 1), [5, -1, 3])
