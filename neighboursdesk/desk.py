@@ -2,6 +2,7 @@
 
 from neighboursdesk.changes import divided_and_moved, held, mixed, ranked, weighed
 from neighboursdesk.grid import Grid
+from neighboursdesk.weights import both_of, parted
 
 GREATEST_SIDE = 12
 FARTHEST_HANDED_IN = 65536
@@ -97,3 +98,33 @@ class Desk:
         if self.aside.columns != self.current.columns or self.aside.rows != self.current.rows:
             return [-4]
         return self.change(mixed(self.current, self.aside, a, b))
+
+    def undo(self):
+        if self.earlier == []:
+            return [-4]
+        self.current = self.earlier.pop()
+        return [0, len(self.earlier)]
+
+    def now(self):
+        return [0, self.current.columns, self.current.rows] + self.current.numbers
+
+    def cell(self, column, row):
+        if column >= self.current.columns or row >= self.current.rows:
+            return [-1]
+        return [0, self.current.numbers[row * self.current.columns + column]]
+
+    def both(self, first, second):
+        if not are_weights(first) or not are_weights(second):
+            return [-3]
+        weights = both_of(first, second)
+        return [0, weights.columns, weights.rows] + weights.numbers
+
+    def part(self, weights):
+        if not are_weights(weights):
+            return [-3]
+        row_and_column = parted(weights)
+        return [0, 0] if row_and_column is None else [0, 1] + row_and_column
+
+    def told(self):
+        numbers = self.current.numbers
+        return [0, min(numbers), max(numbers), sum(numbers)]

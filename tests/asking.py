@@ -35,7 +35,36 @@ def mix(a, b):
     return [6, a, b]
 
 
-def parted(answered):
+def undo():
+    return [7]
+
+
+def now():
+    return [8]
+
+
+def cell(x, y):
+    return [9, x, y]
+
+
+def both(columns, rows, numbers, other_columns, other_rows, other_numbers):
+    rest = list(numbers) + [other_columns, other_rows] + list(other_numbers)
+    return [10, columns, rows, len(rest)] + rest
+
+
+def part(columns, rows, numbers):
+    return [11, columns, rows, len(numbers)] + list(numbers)
+
+
+def told():
+    return [12]
+
+
+def joined(calls):
+    return [number for call in calls for number in call]
+
+
+def call_by_call(answered):
     """The answers call by call; an error if the counts don't fit what stands behind them."""
     found = []
     at = 0
@@ -49,7 +78,7 @@ def parted(answered):
 
 
 def ask(*calls):
-    return parted(answers([number for call in calls for number in call]))
+    return call_by_call(answers(joined(calls)))
 
 
 def last(*calls):
@@ -60,34 +89,12 @@ def last(*calls):
 LOOK = weigh(0, 1, 1, [1])
 
 
-def moved(right, down):
-    """A weigh that moves the picture by at most 2 each way; what leaves the page is gone."""
-    weights = [0] * 25
-    weights[(2 - down) * 5 + 2 - right] = 1
-    return weigh(0, 5, 5, weights)
-
-
-def moves(right, down):
-    calls = []
-    while right or down:
-        x = max(-2, min(2, right))
-        y = max(-2, min(2, down))
-        calls.append(moved(x, y))
-        right -= x
-        down -= y
-    return calls
-
-
 def numbers_behind(calls, w, h):
-    """All numbers of the w by h picture behind these calls: each cell is left alone on
-    the page, by moving all others off it, so that the least and the greatest tell it."""
-    numbers = []
-    for y in range(h):
-        for x in range(w):
-            away = moves(w - 1 - x, h - 1 - y) + moves(1 - w, 1 - h)
-            least, greatest = last(*calls, *away, LOOK)[1:]
-            numbers.append(least if w * h == 1 else least + greatest)
-    return numbers
+    """All numbers of the w by h picture behind these calls; an error if it has another size."""
+    answered = last(*calls, now())
+    if answered[:3] != [0, w, h] or len(answered) != 3 + w * h:
+        raise AssertionError(f"{answered} is no picture of {w} by {h}")
+    return answered[3:]
 
 
 def far_picture(near, *cells):

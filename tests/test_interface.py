@@ -4,23 +4,24 @@ import io
 import unittest
 from unittest import mock
 
-from asking import LOOK, by, hold, mix, picture, put, rank, weigh
+from asking import (
+    LOOK, both, by, cell, hold, joined, mix, now, part, picture, put, rank, told, undo, weigh)
 from neighboursdesk.picture import answers
-
-
-def joined(calls):
-    return [number for call in calls for number in call]
-
 
 SEVERAL = joined([
     picture(2, 2, [1, 2, 3, 4]), put(), weigh(4, 1, 1, [1]), weigh(0, 1, 3, [1, 1, 1]), picture(2, 2, [1]),
     mix(1, -1), mix(1001, 0), rank(0, 1, 8), rank(0, 3, 0), by(0, 1), by(3, 1), hold(2, 1), hold(3, 9),
-    picture(1, 2, []), picture(1, 2, [7, 8]), mix(1, 1), LOOK,
+    now(), undo(), told(), undo(), cell(1, 1), cell(2, 1), both(3, 1, [1, 2, 3], 1, 3, [1, 0, -1]),
+    both(1, 1, [1], 2, 1, [1, 1]), part(3, 1, [2, 0, -4]), part(3, 3, [1, 0, 0, 0, 1, 0, 0, 0, 1]), part(1, 1, [1001]),
+    picture(1, 2, []), undo(), picture(1, 2, [7, 8]), undo(), mix(1, 1), LOOK, undo(), now(),
 ])
 ANSWERED = joined([
     [1, 0], [1, 0], [1, -2], [3, 0, 4, 6], [1, -1],
     [3, 0, 1, 4], [1, -3], [3, 0, 4, 4], [1, -3], [1, -3], [3, 0, 2, 2], [1, -3], [3, 0, 3, 3],
-    [1, -1], [1, 0], [1, -4], [3, 0, 7, 8],
+    [7, 0, 2, 2, 3, 3, 3, 3], [2, 0, 4], [4, 0, 2, 2, 8], [2, 0, 3], [2, 0, 4], [1, -1],
+    [12, 0, 3, 3, 1, 2, 3, 0, 0, 0, -1, -2, -3],
+    [1, -3], [6, 0, 1, 1, 0, -2, 2], [2, 0, 0], [1, -3],
+    [1, -1], [2, 0, 2], [1, 0], [1, -4], [1, -4], [3, 0, 7, 8], [2, 0, 0], [5, 0, 1, 2, 7, 8],
 ])
 
 
@@ -51,16 +52,33 @@ class TestInterface(unittest.TestCase):
         self.assertEqual(answers([4, -3, -2]), [3, 0, -2, -2])
         self.assertEqual(answers([5]), [1, 0])
         self.assertEqual(answers([6, 1, 1]), [3, 0, 0, 0])
+        self.assertEqual(answers([7]), [1, -4])
+        self.assertEqual(answers([8]), [4, 0, 1, 1, 0])
+        self.assertEqual(answers([9, 0, 0]), [2, 0, 0])
+        self.assertEqual(answers([9, 1, 0]), [1, -1])
+        self.assertEqual(answers([10, 1, 1, 4, 2, 1, 1, 3]), [4, 0, 1, 1, 6])
+        self.assertEqual(answers([10, 1, 3, 8, 1, 2, 3, 3, 1, 4, 5, 6]), [12, 0, 3, 3, 4, 5, 6, 8, 10, 12, 12, 15, 18])
+        self.assertEqual(answers([11, 3, 1, 3, 2, 4, 6]), [6, 0, 1, 1, 2, 3, 2])
+        self.assertEqual(answers([12]), [4, 0, 0, 0, 0])
 
     def test_refused_rows_are_read_to_their_end(self):
         self.assertEqual(answers([0, 1, 1, 3, 5, 5, 5, 3, 1, 4]), [1, -1, 3, 0, 4, 4])
         self.assertEqual(answers([0, 1, 1, 0, 3, 1, 4]), [1, -1, 3, 0, 4, 4])
         self.assertEqual(answers([1, 9, 1, 1, 3, 5, 5, 5, 3, 1, 4]), [1, -2, 3, 0, 4, 4])
         self.assertEqual(answers([1, 0, 1, 1, 0, 3, 1, 4]), [1, -3, 3, 0, 4, 4])
+        self.assertEqual(answers([10, 0, 1, 2, 0, 0, 3, 1, 4]), [1, -3, 3, 0, 4, 4])
+        self.assertEqual(answers([10, 2, 1, 5, 7, 7, 1, 1, 7, 3, 1, 4]), [1, -3, 3, 0, 4, 4])
+        self.assertEqual(answers([10, 1, 1, 5, 7, 1, 1, 7, 7, 3, 1, 4]), [1, -3, 3, 0, 4, 4])
+        self.assertEqual(answers([11, 1, 1, 3, 5, 5, 5, 3, 1, 4]), [1, -3, 3, 0, 4, 4])
+        self.assertEqual(answers([11, 1, 1, 0, 3, 1, 4]), [1, -3, 3, 0, 4, 4])
 
     def test_forty_calls_of_the_longest(self):
         calls = picture(12, 12, [1] * 144) + joined([weigh(1, 5, 5, [0] * 12 + [1] + [0] * 12)] * 39)
         self.assertEqual(answers(calls), [1, 0] + [3, 0, 1, 1] * 39)
+        numbers = list(range(144))
+        self.assertEqual(answers(picture(12, 12, numbers) + now() * 39), [1, 0] + ([147, 0, 12, 12] + numbers) * 39)
+        self.assertEqual(answers(picture(12, 12, numbers) * 40), [1, 0] * 40)
+        self.assertEqual(answers([10, 118, 1, 120] + [0] * 120 + joined([part(1, 1, [9] * 60)] * 39)), [1, -3] * 40)
 
     def test_what_is_handed_in_is_not_changed(self):
         calls = list(SEVERAL)
@@ -73,6 +91,8 @@ class TestInterface(unittest.TestCase):
         answers(picture(2, 1, [3, 4]) + put())
         self.assertEqual(answers(LOOK), [3, 0, 0, 0])
         self.assertEqual(answers(mix(1, 1)), [3, 0, 0, 0])
+        answers(picture(2, 1, [3, 4]) + by(1, 1) + by(1, 1))
+        self.assertEqual(answers(undo() + now()), [1, -4, 4, 0, 1, 1, 0])
 
     def test_what_is_given_back_is_the_callers_own(self):
         answers(SEVERAL).append(5)

@@ -21,6 +21,11 @@ WORDS = re.compile(
     r"\b(type|typing|typing_extensions|enum|Enum|IntEnum|StrEnum|Flag|IntFlag|Generic|Protocol|ABC|ABCMeta|"
     r"namedtuple|NamedTuple|TypedDict|TYPE_CHECKING|abstractmethod)\b|dataclass|overload|contextmanager")
 
+METHODS = set(
+    "append clear copy count endswith extend find get index insert isalnum isalpha isdigit islower isspace isupper "
+    "items join keys ljust lower lstrip partition pop remove replace reverse rfind rjust rpartition rsplit rstrip "
+    "setdefault split splitlines startswith strip update upper values zfill bit_length".split())
+
 
 def sources():
     return [(path.name, path.read_text("utf-8")) for path in sorted(PACKAGE.glob("*.py"))]
@@ -71,3 +76,25 @@ class TestLanguage(unittest.TestCase):
                 if isinstance(node, ast.Name) and hasattr(builtins, node.id):
                     self.assertIn(node.id, OWN_NAMES)
                     self.assertIsInstance(node.ctx, ast.Load)
+
+    def test_statements_are_plain(self):
+        for name, node in nodes():
+            with self.subTest(file=name, line=getattr(node, "lineno", 0)):
+                if isinstance(node, ast.Assign):
+                    self.assertEqual(len(node.targets), 1)
+                if isinstance(node, (ast.For, ast.While)):
+                    self.assertEqual(node.orelse, [])
+                if isinstance(node, ast.Compare) and any(isinstance(op, (ast.Is, ast.IsNot)) for op in node.ops):
+                    beside = [node.left] + node.comparators
+                    self.assertTrue(any(isinstance(one, ast.Constant) for one in beside))
+
+    def test_names_and_methods(self):
+        defined = {node.name for name, node in nodes() if isinstance(node, ast.FunctionDef)}
+        for name, node in nodes():
+            with self.subTest(file=name, line=getattr(node, "lineno", 0)):
+                if isinstance(node, ast.Name):
+                    self.assertRegex(node.id, "^[A-Za-z]")
+                if isinstance(node, ast.FunctionDef) and node.name != "__init__":
+                    self.assertRegex(node.name, "^[a-z]")
+                if isinstance(node, ast.Call) and isinstance(node.func, ast.Attribute):
+                    self.assertIn(node.func.attr, METHODS | defined)
